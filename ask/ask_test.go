@@ -56,7 +56,7 @@ func TestComparison(t *testing.T) {
 	for field := -1; field <= 12; field++ {
 		for rel := -1; rel <= 7; rel++ {
 			for _, n := range []int{-1, 0, 1, 2, 3, 4, 1 << 20, 1<<20 + 1, math.MaxInt, math.MinInt} {
-				for _, s := range []string{"", "a", " ~\"\\", "\n", "\x7f", "\u00e9", "\xff", strings.Repeat("x", 128), strings.Repeat("x", 129), "0123456789abcdef", "0123456789abcdeF", "0123456789abcde"} {
+				for _, s := range []string{"", "a", " ~\"\\", "\n", "\x1f", "\x7f", "\u00e9", "\xff", strings.Repeat("x", 128), strings.Repeat("x", 129), "0123456789abcdef", "0123456789abcdeF", "0123456789abcde"} {
 					c := api.Term{Op: api.OpCmp, Field: field, Rel: rel, Num: n, Text: s}
 					want := api.ErrAsk
 					if comparison(c) {

@@ -171,6 +171,12 @@ func TestFailEnd(t *testing.T) {
 	if r.Err() != api.ErrMerge {
 		t.Error("Fail:", r.Err())
 	}
+	r = cur.From([]byte{1, 2})
+	r.Byte()
+	r.End()
+	if r.Err() != api.ErrLong || r.At() != 1 || r.Left() != 0 {
+		t.Error("End ahead of one byte:", r.Err(), r.At(), r.Left())
+	}
 	r = cur.From([]byte{1})
 	r.Byte()
 	r.End()

@@ -291,6 +291,12 @@ func TestPowerless(t *testing.T) {
 		}
 	}
 	d = file.New()
+	d.Write(0, image(1, nil))
+	d.Arm(0)
+	if _, o, e := db.Open(d); e != api.OK || o != (api.Opened{Gen: 1}) || d.Off() {
+		t.Error("without waste it costs nothing:", o, e)
+	}
+	d = file.New()
 	d.Write(0, append(image(1, nil), 7))
 	d.Arm(0)
 	if x, _, e := db.Open(d); x != nil || e != api.ErrOff {

@@ -40,8 +40,8 @@ func forms() map[string]form {
 }
 
 // formOf tells the first word of a kind, and its form.
-func formOf(kind int) (string, form, bool) {
-	for word, f := range forms() {
+func formOf(known map[string]form, kind int) (string, form, bool) {
+	for word, f := range known {
 		if f.kind == kind {
 			return word, f, true
 		}

@@ -188,6 +188,7 @@ func TestParseWrong(t *testing.T) {
 		{"take 1 00\n", 1, api.ErrShell},
 		{"take 1 \"0\"\n", 1, api.ErrShell},
 		{"take 1 \"0g\"\n", 1, api.ErrShell},
+		{"take 1 \"g0\"\n", 1, api.ErrShell},
 		{"take 1 \"0A\"\n", 1, api.ErrShell},
 		{"take 1 \"00 00\"\n", 1, api.ErrShell},
 		{"take \"00\"\n", 1, api.ErrShell},

@@ -53,6 +53,7 @@ func TestBreaks(t *testing.T) {
 		{none, []api.Zone{none, none, none}, nil},
 		{none, []api.Zone{none, none, box(0, 0, 0, 0)}, []int{2}},
 		{none, []api.Zone{none, box(0, 9, 0, 0), box(0, 0, 0, 0)}, []int{3}},
+		{box(0, 0, 0, 0), []api.Zone{box(0, 3, 0, 0), none, box(0, 0, 0, 0)}, []int{0, 1, 2}},
 		{box(5, 6, 0, 1), []api.Zone{box(0, 3, 0, 0), box(0, 1, 1, 1), box(0, 0, 0, 0)}, []int{-1, 0, 1, 2, 3}},
 	} {
 		got, e := sound.Breaks(p, c.first, c.l)

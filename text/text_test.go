@@ -334,6 +334,10 @@ func TestNotWritten(t *testing.T) {
 		{"zone 1 -i<=0 i<=10 i-n<=1099511627786", "zone 1 -i<=0 i<=10", "n-i<=1099511627776\nzone 2"},
 		{" n-i<=1099511627776\nzone 2", "\nzone 2", "\nzone 2"},
 		{"i-n<=1099511627786 n-i<=1099511627776\nzone 2", "i-n<=99999999999999999 n-i<=1099511627776\nzone 2", "99999999999999999"},
+		{"zone 1 -i<=0 i<=10", "zone 1 -i<=0 i<=00000000000000010", "00000000000000010"},    // 17 bytes
+		{"zone 1 -i<=0 i<=10", "zone 1 -i<=0 i<=000000000000000010", "i<=00"},               // 18 bytes
+		{"zone 1 -i<=0 i<=10", "zone 1 -i<=-0000000000000000 i<=10", "-0000000000000000 i"}, // 17 bytes
+		{"zone 1 -i<=0 i<=10", "zone 1 -i<=-00000000000000000 i<=10", "-i<=-00"},            // 18 bytes
 		{"zone 0 all", "zone 0 i<=1099511627776", "i<=1099511627776"},
 		{"zone 5 none", "zone 5 i<=-3 -i<=-3", "i<=-3 -i"},
 		{"zone 5 none", "zone 5 i<=-9999999999999999", "i<=-9999"}, // 17 bytes
@@ -350,6 +354,16 @@ func TestNotWritten(t *testing.T) {
 		line += strings.Count(s[:at], "\n")
 		if r, l, n, e := text.Get(s); e != api.ErrForm || l != line || n != col || !result.Same(r, api.Result{}) {
 			t.Errorf("%q: %d at %d, %d, want %d, %d", c.new, e, l, n, line, col)
+		}
+	}
+}
+
+// What can not stand there counts ahead of what is not right, also behind the end.
+func TestBehindEnd(t *testing.T) {
+	s := strings.Replace(want, "program count", "program 1count", 1)
+	for _, more := range []string{"end\n", "mark 0000000000000009 \"\"\n", "\"\"\n"} {
+		if r, l, n, e := text.Get(s + more); e != api.ErrForm || l != 30 || n != 1 || !result.Same(r, api.Result{}) {
+			t.Errorf("%q behind the end: %d at %d, %d", more, e, l, n)
 		}
 	}
 }

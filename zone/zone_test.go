@@ -393,6 +393,15 @@ func TestWrong(t *testing.T) {
 			t.Error("Itv:", x, e)
 		}
 	}
+	if x, e := zone.Itv(whole(0), 0); x != itv.Of(0, 0) || e != api.OK {
+		t.Error("0 without variables:", x, e)
+	}
+	if z, e := zone.Limit(whole(0), 0, 0, -1); e != api.OK || !dbm.Empty(z) || z.Vars != 0 {
+		t.Error("0 below itself:", z, e)
+	}
+	if z, e := zone.Limit(whole(0), 0, 0, 0); e != api.OK || !dbm.Same(z, whole(0)) {
+		t.Error("0 not above itself:", z, e)
+	}
 	if x, e := zone.Itv(none, 0); x != itv.None() || e != api.OK {
 		t.Error("0 of none:", x, e)
 	}
