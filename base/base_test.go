@@ -113,6 +113,19 @@ func TestMatch(t *testing.T) {
 	}
 }
 
+// Two alarms of one expression are known; in another run there are three of them, elsewhere.
+func TestAnotherRun(t *testing.T) {
+	l, e := base.Of([]api.Alarm{alarmAt(3, "i <= 1"), alarmAt(9, "i <= 1")}, "")
+	if e != api.OK || len(l) != 2 {
+		t.Fatal(l, e)
+	}
+	again := []api.Alarm{alarmAt(40, "i<=1"), alarmAt(13, "i  <= 1"), alarmAt(50, "i <= 1")}
+	s, e := base.Match(l, again)
+	if e != api.OK || !slices.Equal(s.Known, again[:2]) || !slices.Equal(s.Fresh, again[2:]) || len(s.Met) != 2 || len(s.Stale) != 0 {
+		t.Errorf("%v, %d", s, e)
+	}
+}
+
 func TestOf(t *testing.T) {
 	a := []api.Alarm{alarmAt(3, "i <= 1"), alarmAt(9, "i <= 1"), alarmAt(5, "n <= 1")}
 	l, e := base.Of(a, "why")

@@ -218,6 +218,7 @@ func TestPlanRun(t *testing.T) {
 		{nil, api.Cmd{N: -1, Alarms: many}, 0, api.ErrArg},
 		{nil, api.Cmd{N: 2, Alarms: many}, 0, api.ErrArg},
 		{nil, api.Cmd{Alarms: append(slices.Clone(many), bad...)}, 0, api.ErrLong},
+		{nil, api.Cmd{Alarms: many}, 0, api.ErrLong},
 		{nil, api.Cmd{Alarms: bad}, 0, api.ErrAlarm},
 		{nil, api.Cmd{Alarms: many[:256]}, 256, api.OK},
 		{rise(256), api.Cmd{N: 1, Alarms: many[:256]}, 512, api.OK},

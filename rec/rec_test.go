@@ -248,6 +248,21 @@ func TestGetWrong(t *testing.T) {
 	}
 }
 
+// The greatest changes there can be are got, as many as can be.
+func TestGreatest(t *testing.T) {
+	e := api.Entry{
+		Finger: math.MaxUint64,
+		Alarm:  api.Alarm{Kind: api.AlLower, Sev: api.SevMust, Func: strings.Repeat("f", 32), File: strings.Repeat("g", 64), Line: 1 << 20, Expr: strings.Repeat("~", 128)},
+		State:  api.EnMuted, Count: 1 << 20, Note: strings.Repeat(" ", 64),
+	}
+	l := slices.Repeat([]api.Change{{Kind: api.ChPut, Entry: e}, {Kind: api.ChTell, Entry: api.Entry{Finger: e.Finger, Alarm: e.Alarm}}, {Kind: api.ChMute, Entry: api.Entry{Finger: e.Finger, Note: e.Note}}, {Kind: api.ChOpen, Entry: api.Entry{Finger: e.Finger}}}, 128)
+	b, err := rec.Put(l)
+	got, n, err2 := rec.Get(b)
+	if err != api.OK || err2 != api.OK || n != len(b) || !rec.Same(got, l) {
+		t.Error(err, err2)
+	}
+}
+
 func chance(r *rand.Rand) api.Change {
 	c := api.Change{Kind: 1 + r.Intn(5), Entry: api.Entry{Finger: r.Uint64() >> uint(r.Intn(64))}}
 	note := []string{"", "a", "b \"c\""}[r.Intn(3)]
