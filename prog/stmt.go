@@ -20,17 +20,6 @@ const (
 	sign   = "-"
 )
 
-// shows is the table of how a statement of each kind is written.
-func shows() [api.StCheck + 1]func(vars []string, s api.Stmt) string {
-	return [api.StCheck + 1]func(vars []string, s api.Stmt) string{
-		api.StSkip:  showSkip,
-		api.StLet:   showLet,
-		api.StAny:   showAny,
-		api.StLimit: showDiff(wordLimit),
-		api.StCheck: showDiff(wordCheck),
-	}
-}
-
 // Show tells the text of a statement.
 func Show(vars []string, s api.Stmt) (string, api.Errno) {
 	if !rightVars(vars) {
@@ -39,7 +28,7 @@ func Show(vars []string, s api.Stmt) (string, api.Errno) {
 	if !Right(s, len(vars)) {
 		return "", api.ErrStmt
 	}
-	return shows()[s.Kind](vars, s), api.OK
+	return kinds()[s.Kind].show(vars, s), api.OK
 }
 
 func showSkip(_ []string, _ api.Stmt) string { return wordSkip }
@@ -62,11 +51,13 @@ func showAny(vars []string, s api.Stmt) string {
 	return vars[s.X-1] + assign + wordAny + opened + val.Show(s.C) + comma + val.Show(s.D) + closed
 }
 
+func showLimit(vars []string, s api.Stmt) string { return showDiff(wordLimit, vars, s) }
+
+func showCheck(vars []string, s api.Stmt) string { return showDiff(wordCheck, vars, s) }
+
 // showDiff tells how a statement about a difference is written that begins with a word.
-func showDiff(word string) func(vars []string, s api.Stmt) string {
-	return func(vars []string, s api.Stmt) string {
-		return word + " " + difference(vars, s) + atMost + val.Show(s.C)
-	}
+func showDiff(word string, vars []string, s api.Stmt) string {
+	return word + " " + difference(vars, s) + atMost + val.Show(s.C)
 }
 
 // difference tells the text of X less Y.
