@@ -162,6 +162,12 @@ func TestDo(t *testing.T) {
 		{api.Cmd{Kind: api.CmDone, Finger: 6}, api.ErrNone},
 		{api.Cmd{Kind: api.CmMute, Finger: 5, Note: "\n"}, api.ErrMark},
 		{runOf(2), api.ErrArg},
+		{api.Cmd{Kind: api.CmMute, N: 2, Finger: 5, Note: "x"}, api.ErrArg},
+		{api.Cmd{Kind: api.CmOpen, N: -1, Finger: 5}, api.ErrArg},
+		{api.Cmd{Kind: api.CmDone, N: 2, Finger: 6}, api.ErrArg},
+		{api.Cmd{Kind: api.CmBase, N: 2}, api.ErrArg},
+		{api.Cmd{Kind: api.CmMerge, N: -1, Entries: []api.Entry{entry(6, api.EnOpen)}}, api.ErrArg},
+		{api.Cmd{Kind: api.CmPack, N: 2}, api.ErrArg},
 		{runOf(0, 0), api.ErrAlarm},
 		{api.Cmd{}, api.ErrArg},
 	} {
@@ -211,6 +217,9 @@ func TestPack(t *testing.T) {
 	is(t, x, api.MaxGen, 1, l)
 	if got, e := x.Do(api.Cmd{Kind: api.CmPack}); e != api.ErrFull || len(got) != 0 {
 		t.Error("beyond:", e)
+	}
+	if got, e := x.Do(api.Cmd{Kind: api.CmPack, N: 2}); e != api.ErrArg || len(got) != 0 {
+		t.Error("beyond, with a wrong N:", e)
 	}
 	is(t, x, api.MaxGen, 1, l)
 	done(t, x, runOf(0, 50))
@@ -315,7 +324,7 @@ func TestPowerless(t *testing.T) {
 		t.Error("without power:", e)
 	}
 	d.Wake()
-	for _, c := range []api.Cmd{runOf(0, 9), {Kind: api.CmPack}, {}} {
+	for _, c := range []api.Cmd{runOf(0, 9), {Kind: api.CmPack}, {Kind: api.CmPack, N: 2}, {}} {
 		if got, e := x.Do(c); e != api.ErrOff || len(got) != 0 || !x.Dead() {
 			t.Error("dead:", e)
 		}

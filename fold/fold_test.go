@@ -286,6 +286,46 @@ func TestPlanOthers(t *testing.T) {
 	}
 }
 
+// TestPlanN: whatever its kind, and whatever else would be told of it, a command's N is 0 or 1.
+func TestPlanN(t *testing.T) {
+	many := make([]api.Alarm, 300)
+	for k, c := range []struct {
+		c api.Cmd
+		n int
+		e api.Errno
+	}{
+		{api.Cmd{Kind: api.CmRun}, 0, api.OK},
+		{api.Cmd{Kind: api.CmRun, Alarms: many}, 0, api.ErrLong},
+		{api.Cmd{Kind: api.CmRun, Alarms: many[:1]}, 0, api.ErrAlarm},
+		{api.Cmd{Kind: api.CmMute, Finger: 20}, 1, api.OK},
+		{api.Cmd{Kind: api.CmMute, Finger: 20, Note: "\n"}, 0, api.ErrMark},
+		{api.Cmd{Kind: api.CmMute, Finger: 5}, 0, api.ErrNone},
+		{api.Cmd{Kind: api.CmOpen, Finger: 10}, 1, api.OK},
+		{api.Cmd{Kind: api.CmOpen, Finger: 20}, 0, api.ErrOnce},
+		{api.Cmd{Kind: api.CmDone, Finger: 20}, 1, api.OK},
+		{api.Cmd{Kind: api.CmDone, Finger: 10}, 0, api.ErrOnce},
+		{api.Cmd{Kind: api.CmBase, Marks: []api.Mark{{Finger: 10}}}, 1, api.OK},
+		{api.Cmd{Kind: api.CmBase, Marks: []api.Mark{{Finger: 1}, {Finger: 1}}}, 0, api.ErrMark},
+		{api.Cmd{Kind: api.CmMerge, Entries: []api.Entry{entry(5, api.EnOpen)}}, 1, api.OK},
+		{api.Cmd{Kind: api.CmPack}, 0, api.OK},
+	} {
+		for _, n := range []int{math.MinInt, -2, -1, 2, 3, math.MaxInt} {
+			c.c.N = n
+			if batch, e := fold.Plan(three(), c.c); e != api.ErrArg || len(batch) != 0 {
+				t.Errorf("%d: N %d: %v, %d", k, n, batch, e)
+			}
+		}
+		for c.c.N = range 2 {
+			if c.c.Kind == api.CmRun && c.c.N == 1 && c.e == api.OK {
+				c.n++ // what is open, 20, is done with
+			}
+			if batch, e := fold.Plan(three(), c.c); e != c.e || len(batch) != c.n {
+				t.Errorf("%d: N %d: %v, %d, want %d changes, %d", k, c.c.N, batch, e, c.n, c.e)
+			}
+		}
+	}
+}
+
 func chance(r *rand.Rand) []api.Entry {
 	var l []api.Entry
 	for f := range 6 {

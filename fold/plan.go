@@ -27,7 +27,7 @@ func plans() map[int]func(*table, api.Cmd) ([]api.Change, api.Errno) {
 func Plan(l []api.Entry, c api.Cmd) ([]api.Change, api.Errno) {
 	t, ok := open(l)
 	plan, known := plans()[c.Kind]
-	if !ok || !known {
+	if !ok || !known || c.N != 0 && c.N != 1 {
 		return nil, api.ErrArg
 	}
 	batch, e := plan(t, c)
@@ -50,9 +50,6 @@ func change(kind int, finger uint64, note string) api.Change {
 
 // planRun tells all alarms, and, if it is asked for, is done with what is open and was not told.
 func (t *table) planRun(c api.Cmd) ([]api.Change, api.Errno) {
-	if c.N != 0 && c.N != 1 {
-		return nil, api.ErrArg
-	}
 	if len(c.Alarms) > api.MaxAlarms {
 		return nil, api.ErrLong
 	}

@@ -219,8 +219,8 @@ func TestDatabase(t *testing.T) {
 	if e, _ := fold.Find(x.Entries(), f[0]); e.State != api.EnMuted || e.Count != 2 {
 		t.Error("muted still, told twice:", e)
 	}
-	do(api.Do{Kind: api.DoDone, Finger: f[1]}, api.Cmd{Kind: api.CmDone, Finger: f[1]}, 1)
-	do(api.Do{Kind: api.DoOpen, Finger: f[0]}, api.Cmd{Kind: api.CmOpen, Finger: f[0]}, 1)
+	do(api.Do{Kind: api.DoDone, N: 3, M: 2, Finger: f[1]}, api.Cmd{Kind: api.CmDone, Finger: f[1]}, 1) // its N and M are no command's
+	do(api.Do{Kind: api.DoOpen, N: -1, M: -1, Finger: f[0]}, api.Cmd{Kind: api.CmOpen, Finger: f[0]}, 1)
 	do(api.Do{Kind: api.DoBase, N: 0}, api.Cmd{Kind: api.CmBase}, 0)
 	x.Do(api.Do{Kind: api.DoKeep, N: 0, Text: "kept"})
 	r, _ = x.Slot(0)
