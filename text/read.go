@@ -169,7 +169,7 @@ func (x *reader) zone() {
 	x.r.Zones = append(x.r.Zones, x.zoneOf())
 }
 
-// zoneOf takes a zone.
+// zoneOf takes a zone, of the bounds that are told: whether they are a zone's is told behind the last line.
 func (x *reader) zoneOf() api.Zone {
 	n := len(x.r.Prog.Vars)
 	z, _ := dbm.All(n)
@@ -184,7 +184,6 @@ func (x *reader) zoneOf() api.Zone {
 	for x.more() {
 		x.term(z.M, x.take(api.TokWord))
 	}
-	z, _ = dbm.Close(n, z.M)
 	return z
 }
 

@@ -296,9 +296,8 @@ func TestNotRight(t *testing.T) {
 		{"order \"0 (1 2) 3 4\"", "order \"0 1 2 3 4\"", api.ErrOrder},
 		{"order \"0 (1 2) 3 4\"", "order \"\"", api.ErrOrder},
 		{"zone 0 all", "zone 0 none", api.ErrSound},
-		{"zone 2 -i<=0 i<=9", "zone 2 -i<=0 i<=8", api.ErrSound},
-		{"zone 4 -i<=-10 i<=10 i-n<=1099511627786", "zone 4 -i<=-10 i<=10 i-n<=-1", api.ErrSound},
-		{"zone 4 -i<=-10 i<=10 ", "zone 4 i<=-11 -i<=10 ", api.ErrSound},
+		{"zone 2 -i<=0 i<=9 i-n<=1099511627785", "zone 2 -i<=0 i<=8 i-n<=1099511627784", api.ErrSound},
+		{"zone 1 -i<=0 i<=10", "zone 1 -i<=0 -i<=5 i<=10", api.ErrSound}, // the later one counts
 		{"zone 5 none", "zone 5 all", api.OK},
 		{"alarm diff may", "alarm upper may", api.ErrAlarm},
 		{"alarm diff may", "alarm diff must", api.ErrAlarm},
@@ -321,6 +320,56 @@ func TestNotRight(t *testing.T) {
 	}
 }
 
+// A zone's bounds are those that are told, and else those of all valuations: nothing is made of them, also where that is no zone.
+func TestZoneAsTold(t *testing.T) {
+	for _, c := range []struct {
+		old, new string
+		e        api.Errno
+	}{
+		{"first all", "first i<=10", api.ErrInit},
+		{"first all", "first i<=10 i-n<=1099511627786", api.OK},
+		{"first all", "first i<=10 i-n<=1099511627787", api.ErrInit},
+		{"first all", "first i-n<=2 n<=5", api.ErrInit}, // i <= 7 follows
+		{"first all", "first i<=10 -i<=-11", api.ErrInit},
+		{"first all", "first i<=1099511627777", api.ErrInit},
+		{"first all", "first i-n<=2199023255553", api.ErrInit},
+		{"first all", "first none", api.OK},
+		{"zone 0 all", "zone 0 i-n<=2199023255553", api.ErrZone},
+		{"zone 0 all", "zone 0 -n<=99999999999999999", api.ErrZone}, // 17 bytes
+		{"zone 0 all", "zone 0 -n<=-9999999999999999", api.ErrZone}, // 17 bytes
+		{"zone 1 -i<=0 i<=10 i-n<=1099511627786", "zone 1 -i<=0 i<=10", api.ErrZone},
+		{" n-i<=1099511627776\nzone 2", "\nzone 2", api.ErrZone},
+		{"zone 1 -i<=0 i<=10 i-n<=1099511627786", "zone 1 -i<=0 i<=10 i-n<=1099511627787", api.ErrZone},
+		{"zone 1 -i<=0 i<=10 i-n<=1099511627786", "zone 1 -i<=0 i<=10 i-n<=99999999999999999", api.ErrZone},
+		{"zone 2 -i<=0 i<=9", "zone 2 -i<=0 i<=8", api.ErrZone},
+		{"zone 4 -i<=-10 i<=10 i-n<=1099511627786", "zone 4 -i<=-10 i<=10 i-n<=-1", api.ErrZone},
+		{"zone 4 -i<=-10 i<=10 ", "zone 4 i<=-11 -i<=10 ", api.ErrZone},
+		{"zone 5 none", "zone 5 i<=-3 -i<=-3", api.ErrZone},
+		{"zone 5 none", "zone 5 i<=-3 i-n<=1099511627773", api.OK},
+		{"zone 5 none", "zone 5 i<=-3", api.ErrZone},
+		// What result.Check tells first is told.
+		{"first all\nzone 0 all", "first i<=10\nzone 0 i<=10", api.ErrInit},
+		{"\"0 (1 2) 3 4\"\nfirst all\nzone 0 all", "\"\"\nfirst all\nzone 0 i<=10", api.ErrOrder},
+		{"\"0 (1 2) 3 4\"\nfirst all", "\"\"\nfirst i<=10", api.ErrInit},
+	} {
+		s := strings.Replace(want, c.old, c.new, 1)
+		if s == want {
+			t.Fatalf("%q is not there", c.old)
+		}
+		line, col := 30, 1
+		if c.e == api.OK {
+			line, col = 29, 0
+		}
+		r, l, n, e := text.Get(s)
+		if e != c.e || l != line || n != col || e != api.OK && !result.Same(r, api.Result{}) {
+			t.Errorf("%q: %d at %d, %d, want %d", c.new, e, l, n, c.e)
+		}
+		if back, _ := text.Put(r); e == api.OK && back != s {
+			t.Errorf("%q is put as %q", s, back)
+		}
+	}
+}
+
 // What is right, but is not written as it must be, is wrong where it first is not.
 func TestNotWritten(t *testing.T) {
 	for _, c := range []struct{ old, new, mark string }{
@@ -331,16 +380,14 @@ func TestNotWritten(t *testing.T) {
 		{"zone 1 -i<=0 i<=10", "zone 1 -i<=-0 i<=10", "-0 i"},
 		{"zone 1 -i<=0 i<=10", "zone 1 -i<=0 i<=0000000000000010", "0000000000000010"},
 		{"zone 1 -i<=0 i<=10", "zone 1 -i<=0 n<=1099511627776 i<=10", "n<=1"},
-		{"zone 1 -i<=0 i<=10 i-n<=1099511627786", "zone 1 -i<=0 i<=10", "n-i<=1099511627776\nzone 2"},
-		{" n-i<=1099511627776\nzone 2", "\nzone 2", "\nzone 2"},
-		{"i-n<=1099511627786 n-i<=1099511627776\nzone 2", "i-n<=99999999999999999 n-i<=1099511627776\nzone 2", "99999999999999999"},
 		{"zone 1 -i<=0 i<=10", "zone 1 -i<=0 i<=00000000000000010", "00000000000000010"},    // 17 bytes
 		{"zone 1 -i<=0 i<=10", "zone 1 -i<=0 i<=000000000000000010", "i<=00"},               // 18 bytes
 		{"zone 1 -i<=0 i<=10", "zone 1 -i<=-0000000000000000 i<=10", "-0000000000000000 i"}, // 17 bytes
 		{"zone 1 -i<=0 i<=10", "zone 1 -i<=-00000000000000000 i<=10", "-i<=-00"},            // 18 bytes
 		{"zone 0 all", "zone 0 i<=1099511627776", "i<=1099511627776"},
-		{"zone 5 none", "zone 5 i<=-3 -i<=-3", "i<=-3 -i"},
-		{"zone 5 none", "zone 5 i<=-9999999999999999", "i<=-9999"}, // 17 bytes
+		{"zone 0 all", "zone 0 i-n<=2199023255552", "i-n<=2199023255552"},
+		{"zone 5 none", "zone 5 i<=-3 i<=1099511627776", "i<=-3"},
+		{"first all", "first n-i<=2199023255552", "n-i<=2199023255552"},
 	} {
 		s := strings.Replace(want, c.old, c.new, 1)
 		if s == want {
