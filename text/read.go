@@ -201,7 +201,7 @@ func (x *reader) term(m []int, t api.Tok) {
 // bound tells the number of the text of a bound.
 func bound(s string) (int, bool) {
 	digits, below := strings.CutPrefix(s, sign)
-	if len(s) > longest || digits == "" {
+	if len(s) > longest || digits == "" || digits[0] == '0' && s != "0" { // each number has one text
 		return 0, false
 	}
 	n := 0

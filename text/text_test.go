@@ -194,6 +194,20 @@ func TestForm(t *testing.T) {
 		{"first all\n", "first i<=--3\n", "i<=--3"},
 		{"first all\n", "first i<=3x\n", "i<=3x"},
 		{"first all\n", "first i<=inf\n", "i<=inf"},
+		{"first all\n", "first i<=00\n", "i<=00"},
+		{"first all\n", "first i<=-0\n", "i<=-0"},
+		{"first all\n", "first i<=-00\n", "i<=-00"},
+		{"first all\n", "first i<=007\n", "i<=007"},
+		{"first all\n", "first i<=-01\n", "i<=-01"},
+		{"first all\n", "first i<=0-1\n", "i<=0-1"},
+		{"first all\n", "first i<=00000000000000010\n", "i<=0000"},  // 17 bytes
+		{"first all\n", "first i<=-0000000000000000\n", "i<=-0000"}, // 17 bytes
+		{"first all\n", "first i<=010 x\n", "i<=010"},
+		{"first all\n", "first n<=3 i-n<=03\n", "i-n<=03"},
+		{"zone 1 -i<=0 i<=10", "zone 1 -i<=00 i<=10", "-i<=00"},
+		{"zone 1 -i<=0 i<=10", "zone 1 -i<=-0 i<=10", "-i<=-0"},
+		{"zone 1 -i<=0 i<=10", "zone 1 -i<=0 i<=010", "i<=010"},
+		{"zone 3 -i<=-10 i<=10", "zone 3 -i<=-010 i<=10", "-i<=-010"},
 		{"first all\n", "first i<=3<=4\n", "i<=3<="},
 		{"first all\n", "first i<=100000000000000000\n", "i<=1000"},  // 18 bytes
 		{"first all\n", "first i<=-10000000000000000\n", "i<=-1000"}, // 18 bytes
@@ -376,14 +390,7 @@ func TestNotWritten(t *testing.T) {
 		{"zone 1 -i<=0 i<=10", "zone 1 i<=10 -i<=0", "i<=10 -i"},
 		{"zone 1 -i<=0 i<=10", "zone 1 -i<=0 -i<=0 i<=10", "-i<=0 i<=10"},
 		{"zone 1 -i<=0 i<=10", "zone 1 -i<=5 -i<=0 i<=10", "5 -i"}, // the later one counts
-		{"zone 1 -i<=0 i<=10", "zone 1 -i<=00 i<=10", "0 i<=10"},
-		{"zone 1 -i<=0 i<=10", "zone 1 -i<=-0 i<=10", "-0 i"},
-		{"zone 1 -i<=0 i<=10", "zone 1 -i<=0 i<=0000000000000010", "0000000000000010"},
 		{"zone 1 -i<=0 i<=10", "zone 1 -i<=0 n<=1099511627776 i<=10", "n<=1"},
-		{"zone 1 -i<=0 i<=10", "zone 1 -i<=0 i<=00000000000000010", "00000000000000010"},    // 17 bytes
-		{"zone 1 -i<=0 i<=10", "zone 1 -i<=0 i<=000000000000000010", "i<=00"},               // 18 bytes
-		{"zone 1 -i<=0 i<=10", "zone 1 -i<=-0000000000000000 i<=10", "-0000000000000000 i"}, // 17 bytes
-		{"zone 1 -i<=0 i<=10", "zone 1 -i<=-00000000000000000 i<=10", "-i<=-00"},            // 18 bytes
 		{"zone 0 all", "zone 0 i<=1099511627776", "i<=1099511627776"},
 		{"zone 0 all", "zone 0 i-n<=2199023255552", "i-n<=2199023255552"},
 		{"zone 5 none", "zone 5 i<=-3 i<=1099511627776", "i<=-3"},
