@@ -34,16 +34,16 @@ type line struct {
 	next []string
 }
 
-// lines are all lines by their first words.
+// lines are all lines by their first words: in their order, but how many points, edges, zones, alarms and marks there are is not told here.
 func (x *reader) lines() map[string]line {
 	return map[string]line{
 		wordAirx:    {x.airx, []string{wordProgram}},
 		wordProgram: {x.program, []string{wordVars}},
-		wordVars:    {x.vars, []string{wordPoint}},
+		wordVars:    {x.vars, []string{wordPoint, wordEdge, wordOrder}},
 		wordPoint:   {x.point, []string{wordPoint, wordEdge, wordOrder}},
 		wordEdge:    {x.edge, []string{wordEdge, wordOrder}},
 		wordOrder:   {x.order, []string{wordFirst}},
-		wordFirst:   {x.first, []string{wordZone}},
+		wordFirst:   {x.first, []string{wordZone, wordAlarm, wordMark, wordEnd}},
 		wordZone:    {x.zone, []string{wordZone, wordAlarm, wordMark, wordEnd}},
 		wordAlarm:   {x.alarm, []string{wordAlarm, wordMark, wordEnd}},
 		wordMark:    {x.mark, []string{wordMark, wordEnd}},

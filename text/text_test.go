@@ -3,6 +3,7 @@ package text_test
 import (
 	"math/rand"
 	"slices"
+	"strconv"
 	"strings"
 	"testing"
 
@@ -274,6 +275,105 @@ func TestMissing(t *testing.T) {
 		s := strings.Join(lines[:n], "")
 		if r, l, c, e := text.Get(s); e != api.ErrForm || l != n+1 || c != 1 || !result.Same(r, api.Result{}) {
 			t.Errorf("%d lines: %d at %d, %d", n, e, l, c)
+		}
+	}
+}
+
+// How many lines of each kind there are is told behind the last line; which may come where, at the first word that may not.
+func TestLines(t *testing.T) {
+	const (
+		head  = "airx 1\nprogram p\nvars x\n"
+		point = "point 0 f g 1\n"
+		edge  = "edge 0 0 \"skip\"\n"
+		order = "order \"0\"\n"
+		first = "first all\n"
+		zone  = "zone 0 all\n"
+		alarm = "alarm upper may f g 1 \"x <= 3\"\n"
+		mark  = "mark 0000000000000007 \"\"\n"
+		end   = "end\n"
+	)
+	many := func(n int, line func(i int) string) string {
+		var b strings.Builder
+		for i := range n {
+			b.WriteString(line(i))
+		}
+		return b.String()
+	}
+	points := func(n int) string {
+		return many(n, func(i int) string { return "point " + strconv.Itoa(i) + " f g 1\n" })
+	}
+	zones := func(n int) string {
+		return many(n, func(i int) string { return "zone " + strconv.Itoa(i) + " all\n" })
+	}
+	marks := func(n int) string {
+		return many(n, func(i int) string { return "mark 000000000000" + strconv.Itoa(1000+i) + " \"\"\n" })
+	}
+	for k, c := range []struct {
+		rest string
+		bad  int // the line of rest at which the fault is, from 1 on; 0, if there is none
+		e    api.Errno
+	}{
+		{point + order + first + zone + end, 0, api.OK},
+		{point + edge + "order \"(0)\"\n" + first + zone + mark + end, 0, api.OK},
+		{order + first + zone + end, 5, api.ErrProg},
+		{"order \"\"\n" + first + end, 4, api.ErrProg},
+		{edge + order + first + end, 5, api.ErrProg},
+		{edge + edge + order + first + zone + alarm + mark + end, 9, api.ErrProg},
+		{point + order + first + end, 5, api.ErrZone},
+		{point + order + first + alarm + end, 6, api.ErrZone},
+		{point + order + first + mark + end, 6, api.ErrZone},
+		{point + order + first + alarm + alarm + mark + mark + end, 9, api.ErrZone},
+		{point + order + first + zone + "zone 1 all\n" + end, 7, api.ErrZone},
+		{point + "point 1 f g 2\n" + order + first + zone + end, 7, api.ErrZone},
+		{point + order + first + zone + alarm + end, 7, api.ErrAlarm},
+		{point + order + first + zone + mark + mark + end, 8, api.ErrMark},
+		{points(128) + order + first + zones(128) + end, 0, api.OK},
+		{points(129) + order + first + zones(129) + end, 129 + 2 + 129 + 2, api.ErrProg},
+		{point + strings.Repeat(edge, 256) + "order \"(0)\"\n" + first + zone + end, 0, api.OK},
+		{point + strings.Repeat(edge, 257) + "order \"(0)\"\n" + first + zone + end, 263, api.ErrProg},
+		{point + order + first + zone + strings.Repeat(alarm, 257) + end, 263, api.ErrAlarm},
+		{point + order + first + zone + marks(1024) + end, 0, api.OK},
+		{point + order + first + zone + marks(1025) + end, 1031, api.ErrMark},
+		{"", 1, api.ErrForm},
+		{first, 1, api.ErrForm},
+		{zone, 1, api.ErrForm},
+		{alarm, 1, api.ErrForm},
+		{mark, 1, api.ErrForm},
+		{end, 1, api.ErrForm},
+		{"vars x\n", 1, api.ErrForm},
+		{point, 2, api.ErrForm},
+		{point + first, 2, api.ErrForm},
+		{point + end, 2, api.ErrForm},
+		{edge, 2, api.ErrForm},
+		{edge + point, 2, api.ErrForm},
+		{edge + first, 2, api.ErrForm},
+		{order, 2, api.ErrForm},
+		{order + point, 2, api.ErrForm},
+		{order + edge, 2, api.ErrForm},
+		{order + order, 2, api.ErrForm},
+		{order + zone, 2, api.ErrForm},
+		{order + alarm, 2, api.ErrForm},
+		{order + mark, 2, api.ErrForm},
+		{order + end, 2, api.ErrForm},
+		{order + first, 3, api.ErrForm},
+		{order + first + first, 3, api.ErrForm},
+		{order + first + point, 3, api.ErrForm},
+		{order + first + edge, 3, api.ErrForm},
+		{order + first + order, 3, api.ErrForm},
+		{order + first + alarm, 4, api.ErrForm},
+		{order + first + alarm + zone, 4, api.ErrForm},
+		{order + first + mark, 4, api.ErrForm},
+		{order + first + mark + zone, 4, api.ErrForm},
+		{order + first + mark + alarm, 4, api.ErrForm},
+		{order + first + end + zone, 4, api.ErrForm},
+		{order + first + end + end, 4, api.ErrForm},
+	} {
+		line, col := 3+c.bad, 1
+		if c.e == api.OK {
+			line, col = 3+strings.Count(c.rest, "\n"), 0
+		}
+		if r, l, n, e := text.Get(head + c.rest); e != c.e || l != line || n != col || e != api.OK && !result.Same(r, api.Result{}) {
+			t.Errorf("%d: %.60q: %d at %d, %d, want %d at %d, %d", k, c.rest, e, l, n, c.e, line, col)
 		}
 	}
 }
